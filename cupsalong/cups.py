@@ -1,16 +1,10 @@
 """The calls on one day and its tables, and what they answer."""
 
-from cupsalong.limits import FULL, NO_TABLE, NONE_THERE, NOT_AS_TOLD, NOT_BEGUN
+from cupsalong.days import Day
+from cupsalong.limits import CANNOT_BE, FULL, NO_TABLE, NONE_THERE, NOT_AS_TOLD, NOT_BEGUN
 from cupsalong.limits import MOST_CUPS, MOST_DELIVERIES, MOST_MINUTES, MOST_PASSES
 from cupsalong.limits import MOST_RUNNERS, MOST_TABLES, MOST_TAKEN
 from cupsalong.tables import Table
-
-
-class Day:
-    def __init__(self):
-        # No day that has begun has 0 minutes, so 0 stands for one that has not.
-        self.minutes = 0
-        self.tables = []
 
 
 def begin(day, numbers):
@@ -97,11 +91,93 @@ def short(day, table, numbers):
     return [table.first_too_few(day.minutes), missing]
 
 
+def enough(day, numbers):
+    lacking = day.tables_too_short()
+    return [len(lacking)] + lacking
+
+
+def apart(day, numbers):
+    leasts = day.leasts()
+    return [sum(leasts)] + leasts
+
+
+def together(day, numbers):
+    return [day.least_together(), day.all_stock()]
+
+
+def latest(day, table, numbers):
+    cups = numbers[0]
+    if not 1 <= cups <= MOST_CUPS:
+        return [NOT_AS_TOLD]
+    missing = table.least_needed(day.minutes) - table.stock
+    if missing > cups:
+        return [CANNOT_BE]
+    if missing <= 0:
+        return [day.minutes - 1]
+    return [table.first_too_few(day.minutes)]
+
+
+def fewest(day, table, numbers):
+    holds = numbers[0]
+    if holds > MOST_CUPS or holds < table.stock:
+        return [NOT_AS_TOLD]
+    if holds < table.most_wanted(day.minutes):
+        return [CANNOT_BE]
+    filled = table.filled_up(holds, day.minutes)
+    return [len(filled)] + filled
+
+
+def steps_over(gaps):
+    return sum([abs(more) for more in gaps])
+
+
+def steps(day, numbers):
+    if not day.can_be_level():
+        return [CANNOT_BE]
+    gaps = day.over_gaps()
+    return [steps_over(gaps)] + gaps
+
+
+def level(day, numbers):
+    if not day.can_be_level():
+        return [CANNOT_BE]
+    taken = steps_over(day.over_gaps())
+    day.make_level()
+    return [taken]
+
+
+def look(day, table, numbers):
+    seen = [table.stock, table.takes, len(table.passes)]
+    for minute, cups in table.deliveries:
+        seen.append(minute)
+        seen.append(cups)
+    return seen
+
+
+def sums(day, numbers):
+    last = day.minutes - 1
+    return [
+        day.minutes,
+        len(day.tables),
+        day.all_stock(),
+        day.all_brought_up_to(last),
+        day.all_wanted_up_to(last),
+    ]
+
+
 # How many numbers stand behind each call's own, from begin, 0, to sums, 18.
 WIDTHS = (1, 2, 4, 3, 1, 2, 2, 2, 1, 1, 0, 0, 0, 2, 2, 0, 0, 1, 0)
 
 BEGIN = 0
-DAY_CALLS = {1: add_table}
+DAY_CALLS = {
+    1: add_table,
+    10: enough,
+    11: apart,
+    12: together,
+    15: steps,
+    16: level,
+    18: sums,
+}
 TABLE_CALLS = {
     2: add_pass,
     3: bring,
@@ -111,6 +187,9 @@ TABLE_CALLS = {
     7: there,
     8: least,
     9: short,
+    13: latest,
+    14: fewest,
+    17: look,
 }
 
 
@@ -128,9 +207,7 @@ def answer(day, number, numbers):
         return [NOT_BEGUN]
     if number in DAY_CALLS:
         return DAY_CALLS[number](day, numbers)
-    if number in TABLE_CALLS:
-        return answer_at_table(day, number, numbers)
-    raise NotImplementedError(f"call {number} is not built yet")
+    return answer_at_table(day, number, numbers)
 
 
 def answers(calls):

@@ -32,3 +32,18 @@ class Table:
 
     def first_too_few(self, minutes):
         return min([minute for minute in range(minutes) if self.there_behind(minute) < 0])
+
+    def most_wanted(self, minutes):
+        return max([self.wanted_in(minute) for minute in range(minutes)])
+
+    def filled_up(self, holds, minutes):
+        """The minutes at whose beginning the table must be filled up to what it holds."""
+        filled = []
+        cups = self.stock
+        for minute in range(minutes):
+            wanted = self.wanted_in(minute)
+            if cups < wanted:
+                filled.append(minute)
+                cups = holds
+            cups -= wanted
+        return filled

@@ -47,6 +47,42 @@ def short(k):
     return (9, k)
 
 
+def enough():
+    return (10,)
+
+
+def apart():
+    return (11,)
+
+
+def together():
+    return (12,)
+
+
+def latest(k, n):
+    return (13, k, n)
+
+
+def fewest(k, holds):
+    return (14, k, holds)
+
+
+def steps():
+    return (15,)
+
+
+def level():
+    return (16,)
+
+
+def look(k):
+    return (17, k)
+
+
+def sums():
+    return (18,)
+
+
 def line_of(calls):
     line = [number for call in calls for number in call]
     if not 1 <= len(calls) <= 100 or len(line) > 500:
@@ -72,12 +108,12 @@ def ask(calls):
 
 
 def probes():
-    """Calls that show what the first two tables hold, then what each of their lists still takes."""
-    calls = []
+    """Calls that show what the tables hold, then what the lists of the first two still take."""
+    calls = [sums(), enough(), apart(), together(), steps()] + [look(k) for k in range(6)]
     for k in (0, 1):
         calls += [wants(k, t) for t in range(4)] + [there(k, t) for t in range(4)]
         calls += [least(k), short(k), stock(k, 7), passing(k, 0, 1, 1), bring(k, 0, 1), take(k), take(k)]
-    return calls + [least(k) for k in range(2, 6)] + [table(1, 0), table(2, 3)]
+    return calls + [table(1, 0), table(2, 3)]
 
 
 class LineTest(unittest.TestCase):

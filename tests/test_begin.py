@@ -1,4 +1,5 @@
-from tests.lines import BIGGEST, LineTest, ask, begin, bring, least, passing, short, stock, table, take, there, wants
+from tests.lines import BIGGEST, LineTest, apart, ask, begin, bring, enough, fewest, latest, least, level, look, passing
+from tests.lines import short, steps, stock, sums, table, take, there, together, wants
 
 
 class Begin(LineTest):
@@ -43,11 +44,10 @@ class Begin(LineTest):
 
 class NotBegun(LineTest):
     def every_other_call(self):
-        built = [
-            table(1, 0), passing(0, 0, 1, 1), bring(0, 0, 1), take(0), stock(0, 0),
-            wants(0, 0), there(0, 0), least(0), short(0),
+        return [
+            table(1, 0), passing(0, 0, 1, 1), bring(0, 0, 1), take(0), stock(0, 0), wants(0, 0), there(0, 0), least(0),
+            short(0), enough(), apart(), together(), latest(0, 1), fewest(0, 0), steps(), level(), look(0), sums(),
         ]
-        return built + [(10,), (11,), (12,), (13, 0, 1), (14, 0, 0), (15,), (16,), (17, 0), (18,)]
 
     def test_every_other_call_is_answered_61(self):
         for call in self.every_other_call():
@@ -56,7 +56,8 @@ class NotBegun(LineTest):
     def test_61_is_told_ahead_of_every_other_refusal(self):
         wrong = [
             table(0, BIGGEST), passing(9, 0, 0, 0), bring(9, BIGGEST, 0), take(9), stock(9, BIGGEST),
-            wants(9, BIGGEST), there(9, BIGGEST), least(9), short(9),
+            wants(9, BIGGEST), there(9, BIGGEST), least(9), short(9), latest(9, 0), latest(0, BIGGEST),
+            fewest(9, BIGGEST), fewest(0, 100001), look(BIGGEST),
         ]
         self.assertEqual(ask(wrong), [[-61]] * len(wrong))
 

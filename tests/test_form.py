@@ -98,3 +98,36 @@ class Form(unittest.TestCase):
             for node in ast.walk(tree):
                 if isinstance(node, ast.Name) and isinstance(node.ctx, ast.Load):
                     self.assertIn(node.id, bound + BUILT_IN, "L8")
+
+    def test_no_name_is_a_method_and_a_value(self):
+        methods, given = set(), set()
+        for tree in trees():
+            for node in ast.walk(tree):
+                if isinstance(node, ast.ClassDef):
+                    methods.update(inner.name for inner in node.body if isinstance(inner, ast.FunctionDef))
+                if isinstance(node, ast.Attribute) and isinstance(node.ctx, ast.Store):
+                    given.add(node.attr)
+        self.assertEqual(methods & given, set(), "L18")
+
+    def test_no_local_is_called_like_a_class_or_an_import(self):
+        for tree in trees():
+            taken = [node.name for node in tree.body if isinstance(node, ast.ClassDef)]
+            for node in tree.body:
+                if isinstance(node, ast.ImportFrom):
+                    taken += [alias.name for alias in node.names]
+            for node in ast.walk(tree):
+                if isinstance(node, ast.FunctionDef):
+                    inner = [name for row in node.body for name in bound_names(row)] + bound_names(node.args)
+                    self.assertEqual(set(inner) & set(taken), set(), "L15")
+
+    def test_what_is_bound_at_the_top_is_bound_once(self):
+        for tree in trees():
+            names = []
+            for node in tree.body:
+                if isinstance(node, ast.Assign):
+                    names += [target.id for target in node.targets]
+                elif isinstance(node, (ast.FunctionDef, ast.ClassDef)):
+                    names.append(node.name)
+                elif isinstance(node, ast.ImportFrom):
+                    names += [alias.name for alias in node.names]
+            self.assertEqual(sorted(set(names)), sorted(names), "L15")

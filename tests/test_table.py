@@ -50,7 +50,7 @@ class AddTable(LineTest):
 
 class NoSuchTable(LineTest):
     def test_2_where_there_is_no_such_table(self):
-        for call in (2, 0, 1, 1), (3, 0, 1), (4,), (5, 0), (6, 0), (7, 0), (8,), (9,):
+        for call in (2, 0, 1, 1), (3, 0, 1), (4,), (5, 0), (6, 0), (7, 0), (8,), (9,), (13, 1), (14, 5), (17,):
             for k in (2, 5, BIGGEST):
                 self.refused([begin(4), table(2, 3), table(1, 0)], (call[0], k) + call[1:], -2)
             self.refused([begin(4)], (call[0], 0) + call[1:], -2)
@@ -58,6 +58,8 @@ class NoSuchTable(LineTest):
     def test_2_is_told_first(self):
         before = [begin(4), table(2, 3)]
         for wrong in ((2, 1, 0, 0, 0), (2, 1, 4, 1, 1), (3, 1, 4, 0), (5, 1, 100001), (6, 1, 4), (7, 1, 4)):
+            self.refused(before, wrong, -2)
+        for wrong in ((13, 1, 0), (13, 1, 100001), (13, BIGGEST, BIGGEST), (14, 1, 100001), (14, 1, 0)):
             self.refused(before, wrong, -2)
 
     def test_the_last_table_is_there(self):
